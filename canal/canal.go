@@ -1,0 +1,40 @@
+// Package canal: a log of changes that flows through many hands, and is counted just once: see DOC.md.
+package canal
+
+import (
+	"canal/api"
+	"canal/record"
+)
+
+// Encode writes an event as a record (P3).
+func Encode(e api.Event) (string, api.Errno) { return record.Encode(e) }
+
+// Decode reads the records of a log (P4).
+func Decode(log string) ([]api.Event, int, api.Errno) { return record.Decode(log) }
+
+// Fold tells what the first events of a log make (P5).
+func Fold(log string, n int) (string, api.Errno) { return "", api.OK }
+
+// Job is a log that flows.
+type Job struct{}
+
+// New makes a job (P6).
+func New(c api.Config, log string) (*Job, api.Errno) { return nil, api.OK }
+
+// Step lets a task do one thing (P7 to P10).
+func (j *Job) Step(task int) api.Errno { return api.OK }
+
+// Trigger begins a checkpoint (P11).
+func (j *Job) Trigger() (int, api.Errno) { return 0, api.OK }
+
+// Fail lets all tasks forget (P12).
+func (j *Job) Fail() {}
+
+// Queue tells how much waits for a task (P13).
+func (j *Job) Queue(task int) ([]int, api.Errno) { return nil, api.OK }
+
+// Offset tells how many events are counted in the view (P14).
+func (j *Job) Offset() int { return 0 }
+
+// View tells what is counted (P14).
+func (j *Job) View() string { return "" }

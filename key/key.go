@@ -1,0 +1,32 @@
+// Package key: what a key is.
+package key
+
+import "canal/api"
+
+const (
+	replacement      = '\uFFFD'
+	replacementBytes = "\uFFFD"
+)
+
+// Valid tells whether s is a key: 1 to MaxKey bytes in UTF-8.
+func Valid(s string) bool {
+	if len(s) < 1 || len(s) > api.MaxKey {
+		return false
+	}
+	for i, point := range s {
+		// range tells U+FFFD for a wrong byte too: only its own three bytes make it right.
+		if point == replacement && !replacementAt(s, i) {
+			return false
+		}
+	}
+	return true
+}
+
+// replacementAt tells whether the bytes of U+FFFD stand in s from at on.
+func replacementAt(s string, at int) bool {
+	end := at + len(replacementBytes)
+	if at < 0 || end > len(s) {
+		return false
+	}
+	return s[at:end] == replacementBytes
+}
