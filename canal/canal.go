@@ -3,6 +3,7 @@ package canal
 
 import (
 	"canal/api"
+	"canal/fold"
 	"canal/record"
 )
 
@@ -13,7 +14,7 @@ func Encode(e api.Event) (string, api.Errno) { return record.Encode(e) }
 func Decode(log string) ([]api.Event, int, api.Errno) { return record.Decode(log) }
 
 // Fold tells what the first events of a log make (P5).
-func Fold(log string, n int) (string, api.Errno) { return "", api.OK }
+func Fold(log string, n int) (string, api.Errno) { return fold.Fold(log, n) }
 
 // Job is a log that flows.
 type Job struct{}

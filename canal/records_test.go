@@ -146,6 +146,18 @@ func (m *numbers) log(most int) (string, []api.Event) {
 	return s, events
 }
 
+// bytes makes a text of any bytes, many of them small: so some of them are heads of records.
+func (m *numbers) bytes() string {
+	b := make([]byte, m.next(420))
+	for i := range b {
+		b[i] = byte(m.next(256))
+		if m.next(2) == 0 {
+			b[i] = byte(m.next(4))
+		}
+	}
+	return string(b)
+}
+
 func TestP3Examples(t *testing.T) {
 	checkEncode(t, put("a", 1, 5), "\x01\x01\x61\x00\x01\x00\x05\x69", api.OK)
 	checkEncode(t, drop("a", 2), "\x02\x01\x61\x00\x02\x66", api.OK)
@@ -313,14 +325,7 @@ func TestP4HeadsWithRightCheck(t *testing.T) {
 func TestP1AnyBytes(t *testing.T) {
 	m := &numbers{7}
 	for range 20000 {
-		b := make([]byte, m.next(420))
-		for i := range b {
-			b[i] = byte(m.next(256))
-			if m.next(2) == 0 {
-				b[i] = byte(m.next(4))
-			}
-		}
-		checkAgainstSecond(t, string(b))
+		checkAgainstSecond(t, m.bytes())
 	}
 }
 

@@ -1,4 +1,4 @@
-// Package key: what a key is.
+// Package key: what a key is, and its group.
 package key
 
 import "canal/api"
@@ -29,4 +29,13 @@ func replacementAt(s string, at int) bool {
 		return false
 	}
 	return s[at:end] == replacementBytes
+}
+
+// Group is the group of a key: its first code point.
+func Group(s string) rune {
+	points := []rune(s)
+	if len(points) == 0 {
+		return 0
+	}
+	return points[0]
 }

@@ -101,3 +101,19 @@ func TestAllCodePoints(t *testing.T) {
 		}
 	}
 }
+
+func TestGroup(t *testing.T) {
+	for r := rune(0); r <= utf8.MaxRune; r++ {
+		if r >= 0xd800 && r <= 0xdfff {
+			continue
+		}
+		for _, s := range []string{string(r), string(r) + "a", string(r) + string(r), string(r) + "😀"} {
+			if got := Group(s); got != r {
+				t.Fatalf("Group(%q) = %d, want %d", s, got, r)
+			}
+		}
+	}
+	if got := Group(""); got != 0 {
+		t.Errorf("Group of no text = %d", got)
+	}
+}
