@@ -12,10 +12,11 @@ type Change struct {
 
 // group is what is known of a shown group.
 type group struct {
-	point  rune
-	live   int
-	sum    int16
-	events uint8
+	point   rune
+	live    int
+	sum     int16
+	events  uint8
+	changed bool // by Add, since TakeChanged was last called
 }
 
 // Table is what is known of the shown groups, the least code point first.
@@ -25,14 +26,41 @@ type Table struct {
 
 // Add counts a change. Its group is shown from then on, even if Events wraps to 0.
 func (t *Table) Add(c Change) {
-	at := t.place(c.Group)
-	if at == len(t.list) || t.list[at].point != c.Group {
-		t.insert(at, group{point: c.Group})
-	}
+	at := t.home(c.Group)
 	g := &t.list[at]
 	g.live += c.Live
 	g.sum += c.Sum
 	g.events++
+	g.changed = true
+}
+
+// TakeChanged gives the groups that are changed, as they are now, in memory of their own; from then on they are not changed any more.
+func (t *Table) TakeChanged() Table {
+	var taken Table
+	for i := 0; i < len(t.list); i++ {
+		if t.list[i].changed {
+			t.list[i].changed = false
+			taken.list = append(taken.list, t.list[i])
+		}
+	}
+	return taken
+}
+
+// Lay lays the groups of over upon those of t: each takes the place of what t knew of it.
+func (t *Table) Lay(over *Table) {
+	for i := 0; i < len(over.list); i++ {
+		at := t.home(over.list[i].point)
+		t.list[at] = over.list[i]
+	}
+}
+
+// home tells where the group stands in the list; if it was not there, it is from then on, with nothing counted.
+func (t *Table) home(point rune) int {
+	at := t.place(point)
+	if at == len(t.list) || t.list[at].point != point {
+		t.insert(at, group{point: point})
+	}
+	return at
 }
 
 // place tells where the group stands in the list or, if it is not there, would stand.

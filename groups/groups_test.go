@@ -93,3 +93,62 @@ func TestGroupsBesideIt(t *testing.T) {
 		check(t, &table, want)
 	}
 }
+
+// checkChanged checks what TakeChanged gives, and that it is not given again.
+func checkChanged(t *testing.T, table *Table, want string) {
+	t.Helper()
+	for _, w := range []string{want, ""} {
+		changed := table.TakeChanged()
+		check(t, &changed, w)
+	}
+}
+
+func TestChanged(t *testing.T) {
+	var table Table
+	checkChanged(t, &table, "")
+	table.Add(Change{Group: 'b', Live: 1, Sum: 2})
+	checkChanged(t, &table, "b 1 2 1;")
+	table.Add(Change{Group: 'c', Live: 1, Sum: 3})
+	table.Add(Change{Group: 'a', Live: 1, Sum: 1})
+	table.Add(Change{Group: 'a', Live: 1, Sum: 1})
+	checkChanged(t, &table, "a 2 2 2;c 1 3 1;")
+	// A group is changed by its event, even if Live and Sum stay.
+	table.Add(Change{Group: 'b'})
+	checkChanged(t, &table, "b 1 2 2;")
+	check(t, &table, "a 2 2 2;b 1 2 2;c 1 3 1;")
+}
+
+// What was taken stays as it was when the table goes on.
+func TestChangedInOwnMemory(t *testing.T) {
+	var table Table
+	table.Add(Change{Group: 'b', Live: 1, Sum: 2})
+	table.Add(Change{Group: 'c', Live: 1, Sum: 3})
+	changed := table.TakeChanged()
+	table.Add(Change{Group: 'b', Live: -1, Sum: 9})
+	table.Add(Change{Group: 'a', Live: 1, Sum: 1})
+	check(t, &changed, "b 1 2 1;c 1 3 1;")
+	changed.Add(Change{Group: 'c', Live: 1, Sum: 3})
+	check(t, &table, "a 1 1 1;b 0 11 2;c 1 3 1;")
+}
+
+func TestLay(t *testing.T) {
+	var view, first, second Table
+	view.Lay(&first)
+	check(t, &view, "")
+	first.Add(Change{Group: 'b', Live: 1, Sum: 2})
+	first.Add(Change{Group: 'd', Live: 1, Sum: 4})
+	view.Lay(&first)
+	check(t, &view, "b 1 2 1;d 1 4 1;")
+	// Laid over is put in the place of what was there, not added to it.
+	view.Lay(&first)
+	check(t, &view, "b 1 2 1;d 1 4 1;")
+	second.Add(Change{Group: 'e', Live: 0, Sum: 0})
+	second.Add(Change{Group: 'd', Live: 0, Sum: -9})
+	second.Add(Change{Group: 'a', Live: 1, Sum: 1})
+	view.Lay(&second)
+	check(t, &view, "a 1 1 1;b 1 2 1;d 0 -9 1;e 0 0 1;")
+	check(t, &first, "b 1 2 1;d 1 4 1;")
+	check(t, &second, "a 1 1 1;d 0 -9 1;e 0 0 1;")
+	first.Add(Change{Group: 'b', Live: 1, Sum: 2})
+	check(t, &view, "a 1 1 1;b 1 2 1;d 0 -9 1;e 0 0 1;")
+}

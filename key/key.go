@@ -1,4 +1,4 @@
-// Package key: what a key is, and its group.
+// Package key: what a key is, its group and its hash.
 package key
 
 import "canal/api"
@@ -6,6 +6,11 @@ import "canal/api"
 const (
 	replacement      = '\uFFFD'
 	replacementBytes = "\uFFFD"
+)
+
+const (
+	hashStart  uint32 = 2166136261
+	hashFactor uint32 = 16777619
 )
 
 // Valid tells whether s is a key: 1 to MaxKey bytes in UTF-8.
@@ -38,4 +43,14 @@ func Group(s string) rune {
 		return 0
 	}
 	return points[0]
+}
+
+// Hash is the hash of a key, over its bytes, wrapping at 32 bits.
+func Hash(s string) uint32 {
+	hash := hashStart
+	for i := 0; i < len(s); i++ {
+		hash ^= uint32(s[i])
+		hash *= hashFactor
+	}
+	return hash
 }

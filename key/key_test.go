@@ -1,6 +1,7 @@
 package key
 
 import (
+	"hash/fnv"
 	"strings"
 	"testing"
 	"unicode/utf8"
@@ -116,4 +117,30 @@ func TestGroup(t *testing.T) {
 	if got := Group(""); got != 0 {
 		t.Errorf("Group of no text = %d", got)
 	}
+}
+
+func checkHash(t *testing.T, s string, want uint32) {
+	t.Helper()
+	if got := Hash(s); got != want {
+		t.Errorf("Hash(%q) = %d, want %d", s, got, want)
+	}
+}
+
+func TestHash(t *testing.T) {
+	checkHash(t, "a", 3826002220)
+	checkHash(t, "b", 3876335077)
+	checkHash(t, "", 2166136261)
+	for _, s := range []string{"ab", "ba", "abcdefgh", "é", "€", "😀😀", "\uFFFD", "\x00", "\x00\x00", "\x7f"} {
+		checkHash(t, s, hashOf(s))
+	}
+	for point := rune(0); point <= utf8.MaxRune; point += 7 {
+		checkHash(t, string(point)+"k", hashOf(string(point)+"k"))
+	}
+}
+
+// hashOf is the same hash from the library, which knows it as FNV-1a.
+func hashOf(s string) uint32 {
+	h := fnv.New32a()
+	h.Write([]byte(s))
+	return h.Sum32()
 }

@@ -20,13 +20,20 @@ type Keys struct {
 	list []entry
 }
 
+// Counts tells whether e counts. It takes nothing in: who asks may yet have to let e wait.
+func (k *Keys) Counts(e api.Event) bool {
+	at := k.place(e.Key)
+	return at == len(k.list) || newer(e.Seq, k.list[at].seq)
+}
+
 // Take tells whether e counts; if it does, it is known from then on, and the answer is the change of its group.
 func (k *Keys) Take(e api.Event) (groups.Change, bool) {
+	if !k.Counts(e) {
+		return groups.Change{}, false
+	}
 	at := k.place(e.Key)
 	if at == len(k.list) {
 		k.list = append(k.list, entry{name: e.Key})
-	} else if !newer(e.Seq, k.list[at].seq) {
-		return groups.Change{}, false
 	}
 	old := k.list[at]
 	now := made(e)

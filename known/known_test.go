@@ -19,6 +19,12 @@ func drop(key string, seq uint16) api.Event {
 func counts(t *testing.T, keys *Keys, e api.Event, group rune, live int, sum int16) {
 	t.Helper()
 	want := groups.Change{Group: group, Live: live, Sum: sum}
+	// Asked ahead, however often, it takes nothing in.
+	for range 2 {
+		if !keys.Counts(e) {
+			t.Errorf("Counts(%+v) = false", e)
+		}
+	}
 	if got, ok := keys.Take(e); !ok || got != want {
 		t.Errorf("Take(%+v) = %+v, %v, want %+v", e, got, ok, want)
 	}
@@ -27,6 +33,9 @@ func counts(t *testing.T, keys *Keys, e api.Event, group rune, live int, sum int
 // countsNot checks that e does not count.
 func countsNot(t *testing.T, keys *Keys, e api.Event) {
 	t.Helper()
+	if keys.Counts(e) {
+		t.Errorf("Counts(%+v) = true", e)
+	}
 	if got, ok := keys.Take(e); ok || got != (groups.Change{}) {
 		t.Errorf("Take(%+v) = %+v, %v", e, got, ok)
 	}
