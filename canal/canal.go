@@ -37,8 +37,8 @@ func (j *Job) Step(task int) api.Errno { return j.flow.Step(task) }
 // Trigger begins a checkpoint (P11).
 func (j *Job) Trigger() (int, api.Errno) { return j.flow.Trigger() }
 
-// Fail lets all tasks forget (P12). It does nothing yet.
-func (j *Job) Fail() {}
+// Fail lets all tasks forget (P12).
+func (j *Job) Fail() { j.flow.Fail() }
 
 // Queue tells how much waits for a task (P13).
 func (j *Job) Queue(task int) ([]int, api.Errno) { return j.flow.Queue(task) }

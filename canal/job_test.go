@@ -78,6 +78,13 @@ func checkShown(t *testing.T, j *canal.Job, offset int, view string) {
 // checkFresh checks that a job is as New gives it, with so many events.
 func checkFresh(t *testing.T, j *canal.Job, width int, events int) {
 	t.Helper()
+	checkStill(t, j, width, events)
+	checkShown(t, j, 0, "")
+}
+
+// checkStill checks that nothing flows, with so many events that are not sent.
+func checkStill(t *testing.T, j *canal.Job, width int, events int) {
+	t.Helper()
 	checkQueue(t, j, 0, events)
 	for n := 1; n <= width; n++ {
 		checkQueue(t, j, n, 0)
@@ -87,7 +94,6 @@ func checkFresh(t *testing.T, j *canal.Job, width int, events int) {
 	}
 	checkQueue(t, j, 2*width+1, 0)
 	checkSteps(t, j, 2*width+1, api.ErrIdle)
-	checkShown(t, j, 0, "")
 	if events == 0 {
 		checkSteps(t, j, 0, api.ErrIdle)
 	}
@@ -191,6 +197,9 @@ func TestP7TasksThatAreNot(t *testing.T) {
 			p.compare()
 			if n.next(5) == 0 {
 				p.trigger()
+			}
+			if n.next(15) == 0 {
+				p.fail()
 			}
 			p.step(n.next(2*width + 2))
 		}
@@ -300,6 +309,9 @@ func TestP13ChangesNothing(t *testing.T) {
 		if n.next(9) == 0 {
 			p.trigger()
 		}
+		if n.next(40) == 0 {
+			p.fail()
+		}
 	}
 }
 
@@ -323,6 +335,9 @@ func TestP2ListsOfQueue(t *testing.T) {
 			if n.next(9) == 0 {
 				p.trigger()
 			}
+			if n.next(20) == 0 {
+				p.fail()
+			}
 			if !slices.Equal(second, kept) {
 				t.Fatalf("a list of Queue(%d) changed: %v, was %v", task, second, kept)
 			}
@@ -340,9 +355,12 @@ func TestP2JobsAreApart(t *testing.T) {
 	}
 	for range 2000 {
 		p := pairs[n.next(len(pairs))]
-		if n.next(9) == 0 {
+		switch n.next(40) {
+		case 0, 1, 2, 3:
 			p.trigger()
-		} else {
+		case 4:
+			p.fail()
+		default:
 			p.step(n.next(2*p.m.width + 2))
 		}
 	}

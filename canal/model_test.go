@@ -19,6 +19,8 @@ type model struct {
 	sent        int
 	toSorter    [][]int   // by sorter
 	took        [][]int   // by sorter
+	atBarrier   [][]int   // what each sorter had taken when it sent on the last barrier
+	kept        [][]int   // the same, of the last checkpoint that was committed
 	toAdder     [][][]int // by adder, then by sorter
 	stopped     [][]bool  // by adder, then by sorter
 	underWay    bool
@@ -34,15 +36,26 @@ type model struct {
 func newModel(width int, room int, log string) *model {
 	m := &model{width: width, room: room}
 	m.events, _, _ = readAll(log)
-	m.toSorter = make([][]int, width)
 	m.took = make([][]int, width)
-	m.passed = make([]bool, width)
-	m.laid = make([]bool, width)
-	for range width {
-		m.toAdder = append(m.toAdder, make([][]int, width))
-		m.stopped = append(m.stopped, make([]bool, width))
-	}
+	m.atBarrier = make([][]int, width)
+	m.kept = make([][]int, width)
+	m.forgetPipes()
+	m.forgetCheckpoint()
 	return m
+}
+
+func (m *model) forgetPipes() {
+	m.toSorter = make([][]int, m.width)
+	m.toAdder, m.stopped = nil, nil
+	for range m.width {
+		m.toAdder = append(m.toAdder, make([][]int, m.width))
+		m.stopped = append(m.stopped, make([]bool, m.width))
+	}
+}
+
+func (m *model) forgetCheckpoint() {
+	m.underWay, m.began, m.complete = false, false, false
+	m.passed, m.laid = make([]bool, m.width), make([]bool, m.width)
 }
 
 func sorterOf(key string, width int) int {
@@ -139,6 +152,7 @@ func (m *model) stepSorter(s int) api.Errno {
 	}
 	if item == barrier {
 		m.passed[s] = true
+		m.atBarrier[s] = slices.Clone(m.took[s])
 	} else {
 		m.took[s] = append(m.took[s], item)
 	}
@@ -180,10 +194,28 @@ func (m *model) stepKeeper() api.Errno {
 		m.complete = true
 		return api.OK
 	}
-	m.offset = m.ahead
-	m.underWay, m.began, m.complete = false, false, false
-	m.passed, m.laid = make([]bool, m.width), make([]bool, m.width)
+	m.commit()
 	return api.OK
+}
+
+func (m *model) commit() {
+	m.offset = m.ahead
+	for s := range m.width {
+		m.kept[s] = slices.Clone(m.atBarrier[s])
+	}
+	m.forgetCheckpoint()
+}
+
+func (m *model) fail() {
+	if m.complete {
+		m.commit()
+	}
+	m.forgetCheckpoint()
+	m.forgetPipes()
+	m.sent = m.offset
+	for s := range m.width {
+		m.took[s] = slices.Clone(m.kept[s])
+	}
 }
 
 func (m *model) trigger() (int, api.Errno) {
@@ -213,14 +245,16 @@ func (m *model) queue(task int) []int {
 
 // pair is a job and its model, which are asked the same.
 type pair struct {
-	t *testing.T
-	j *canal.Job
-	m *model
+	t    *testing.T
+	log  string
+	j    *canal.Job
+	m    *model
+	last int // the offset that the job told last
 }
 
 func newPair(t *testing.T, width int, room int, log string) *pair {
 	t.Helper()
-	p := &pair{t, newJob(t, width, room, log), newModel(width, room, log)}
+	p := &pair{t: t, log: log, j: newJob(t, width, room, log), m: newModel(width, room, log)}
 	p.compare()
 	return p
 }
@@ -234,9 +268,21 @@ func (p *pair) compare() {
 	checkNoQueue(p.t, p.j, -1)
 	checkNoQueue(p.t, p.j, 2*p.m.width+2)
 	checkShown(p.t, p.j, p.m.offset, textOf(p.m.events[:p.m.offset]))
+	p.checkFollows()
 	if p.t.Failed() {
 		p.t.Fatalf("width %d, room %d, log %+v", p.m.width, p.m.room, p.m.events)
 	}
+}
+
+// checkFollows checks what P15 says of a job at any moment, from the calls alone.
+func (p *pair) checkFollows() {
+	p.t.Helper()
+	offset, view := p.j.Offset(), p.j.View()
+	text, errno := canal.Fold(p.log, offset)
+	if errno != api.OK || view != text || offset < p.last {
+		p.t.Errorf("Offset() = %d (was %d), View() = %q, Fold %q, %d", offset, p.last, view, text, errno)
+	}
+	p.last = offset
 }
 
 func (p *pair) step(task int) api.Errno {
@@ -253,6 +299,13 @@ func (p *pair) trigger() {
 	p.t.Helper()
 	n, want := p.m.trigger()
 	checkTrigger(p.t, p.j, n, want)
+	p.compare()
+}
+
+func (p *pair) fail() {
+	p.t.Helper()
+	p.m.fail()
+	p.j.Fail()
 	p.compare()
 }
 
@@ -309,6 +362,8 @@ func TestP15AgainstModel(t *testing.T) {
 					events = n.eventsOf(66, 400, someKeys, 0, 65536)
 				}
 				p := newPair(t, width, room, logOf(events...))
+				// Some jobs never fail, some fail now and then, some often.
+				failing := []int{0, 1, 3, 30}[round%4]
 				for range 300 {
 					switch n.next(12) {
 					case 0:
@@ -318,6 +373,9 @@ func TestP15AgainstModel(t *testing.T) {
 					default:
 						p.step(n.busy(width, round%5))
 					}
+					if n.next(100) < failing {
+						p.fail()
+					}
 				}
 				p.settle()
 			}
@@ -325,7 +383,7 @@ func TestP15AgainstModel(t *testing.T) {
 	}
 }
 
-// TestP15RoundsFromEachPlace lets a job go on by rounds alone from each place of an uneven run.
+// TestP15RoundsFromEachPlace lets a job go on by rounds alone from each place of an uneven run, with a checkpoint and a Fail somewhere in it.
 func TestP15RoundsFromEachPlace(t *testing.T) {
 	n := &numbers{41}
 	for range 40 {
@@ -335,12 +393,15 @@ func TestP15RoundsFromEachPlace(t *testing.T) {
 		for range n.next(60) {
 			tasks = append(tasks, n.busy(width, n.next(5)))
 		}
-		at := n.next(len(tasks) + 1)
+		at, failAt := n.next(len(tasks)+1), n.next(len(tasks)+1)
 		for end := range len(tasks) + 1 {
 			p := newPair(t, width, room, log)
 			for i, task := range tasks[:end] {
 				if i == at {
 					p.trigger()
+				}
+				if i == failAt {
+					p.fail()
 				}
 				p.step(task)
 			}
@@ -349,27 +410,55 @@ func TestP15RoundsFromEachPlace(t *testing.T) {
 	}
 }
 
-// TestP15SameOffsetSameView compares jobs of one log at all configurations.
+// sentOf tells how many of so many events a job's source has sent.
+func sentOf(t *testing.T, j *canal.Job, events int) int {
+	t.Helper()
+	l, errno := j.Queue(0)
+	if len(l) != 1 || errno != api.OK {
+		t.Fatalf("Queue(0) = %v, %d", l, errno)
+	}
+	return events - l[0]
+}
+
+// bring lets a job commit at an offset, behind a script that is drawn, with Fail and other checkpoints in it.
+func (n *numbers) bring(t *testing.T, j *canal.Job, width int, events int, offset int) {
+	t.Helper()
+	number := 0
+	for range n.next(120) {
+		switch n.next(20) {
+		case 0:
+			j.Fail()
+		case 1, 2:
+			if _, errno := j.Trigger(); errno == api.OK {
+				number++
+			}
+		default:
+			task := n.next(2*width + 2)
+			if task > 0 || sentOf(t, j, events) < offset {
+				j.Step(task)
+			}
+		}
+	}
+	j.Fail()
+	for try := 0; sentOf(t, j, events) < offset && try < 10000; try++ {
+		j.Step(n.next(2*width + 2))
+	}
+	commit(t, j, width, number+1)
+}
+
+// TestP15SameOffsetSameView compares jobs of one log at all configurations, each with its own script.
 func TestP15SameOffsetSameView(t *testing.T) {
 	n := &numbers{43}
 	for range 10 {
 		log, events := n.log(50)
 		for at := range len(events) + 1 {
+			want, errno := canal.Fold(log, at)
+			if errno != api.OK || want != textOf(events[:at]) {
+				t.Fatalf("Fold(%q, %d) = %q, %d", log, at, want, errno)
+			}
 			for width := 1; width <= 4; width++ {
 				j := newJob(t, width, 1+n.next(4), log)
-				sent := 0
-				for try := 0; sent < at && try < 10000; try++ {
-					task := n.next(2*width + 2)
-					if j.Step(task) == api.OK && task == 0 {
-						sent++
-					}
-				}
-				checkTrigger(t, j, 1, api.OK)
-				rounds(j, 2*width+2, 50)
-				want, errno := canal.Fold(log, at)
-				if errno != api.OK || want != textOf(events[:at]) {
-					t.Fatalf("Fold(%q, %d) = %q, %d", log, at, want, errno)
-				}
+				n.bring(t, j, width, len(events), at)
 				checkShown(t, j, at, want)
 			}
 		}

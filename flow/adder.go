@@ -63,6 +63,15 @@ func (f *Flow) layReady(a *adder) {
 	f.checkpoint.laid++
 }
 
+// forget lets an adder know of no group, with nothing in its pipes, and all of them open.
+func (a *adder) forget() {
+	for i := 0; i < len(a.inlets); i++ {
+		a.inlets[i].pipe.Clear()
+		a.inlets[i].stopped = false
+	}
+	a.table = groups.Table{}
+}
+
 // waiting tells how many items each pipe of an adder has.
 func (a *adder) waiting() []int {
 	var numbers []int

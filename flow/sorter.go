@@ -55,6 +55,12 @@ func (f *Flow) passBarrier(at int) api.Errno {
 	return api.OK
 }
 
+// forget lets a sorter know of no key, with nothing in its pipe.
+func (s *sorter) forget() {
+	s.in.Clear()
+	s.keys = known.Keys{}
+}
+
 // pipeBetween is the pipe from a sorter to an adder, by their places.
 func (f *Flow) pipeBetween(from int, to int) *pipe.Pipe {
 	return &f.adders[to].inlets[from].pipe

@@ -50,3 +50,6 @@ func (p *Pipe) Take() {
 	}
 	p.items = p.items[:len(p.items)-1]
 }
+
+// Clear takes away all items.
+func (p *Pipe) Clear() { p.items = nil }

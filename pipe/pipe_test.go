@@ -54,3 +54,24 @@ func TestTakeOfNothing(t *testing.T) {
 	p.Send(item(2))
 	checkPipe(t, &p, 2, []Item{item(2)})
 }
+
+// A pipe that was cleared has all its room again, and gives nothing of what was in it.
+func TestClear(t *testing.T) {
+	for room := 1; room <= api.MaxRoom; room++ {
+		p := New(room)
+		p.Clear()
+		checkPipe(t, &p, room, nil)
+		for sent := range room + 1 {
+			for n := range sent {
+				p.Send(item(n))
+			}
+			p.Clear()
+			checkPipe(t, &p, room, nil)
+			p.Clear()
+			p.Send(item(7))
+			checkPipe(t, &p, room, []Item{item(7)})
+			p.Take()
+			checkPipe(t, &p, room, nil)
+		}
+	}
+}
